@@ -1,0 +1,1 @@
+"""Ringbeats: who beats whom around a ring."""
