@@ -16,7 +16,9 @@ class Kinds(unittest.TestCase):
     def test_ascending_tuples(self):
         for value in ((), (0,), (3,), (0, 1, 2, 3), (1, 3)):
             self.assertIs(is_ascending(value, 4), True)
-        for value in ((4,), (-1,), (-1, 0), (0, 0), (1, 0), (0, 2, 2), (0, True), (False,), (None,), [], [0], None, 0, ""):
+        for value in ((4,), (-1,), (-1, 0), (0, 0), (1, 0), (0, 2, 2), (0, True), (False,), (None,)):
+            self.assertIs(is_ascending(value, 4), False)
+        for value in ([], [0], None, True, 0, ""):
             self.assertIs(is_ascending(value, 4), False)
 
 
