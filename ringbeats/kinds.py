@@ -19,3 +19,15 @@ def is_ascending(value, many):
             return False
         least = item + 1
     return True
+
+
+def are_whole(value, many, low, high):
+    """Return True if the value is a tuple of so many integers from low to high, otherwise False."""
+    if not isinstance(value, tuple) or len(value) != many:
+        return False
+    return all([is_whole(item, low, high) for item in value])
+
+
+def is_order(value, many):
+    """Return True if the value is a tuple that has each integer from 0 to many - 1 once, otherwise False."""
+    return are_whole(value, many, 0, many - 1) and len(set(value)) == many

@@ -1,7 +1,7 @@
 """Tournaments, their triangles, obstructions and twins."""
 
 from ringbeats.errors import BadValue
-from ringbeats.kinds import MOST_PLAYERS, is_ascending, is_whole
+from ringbeats.kinds import MOST_PLAYERS, are_whole, is_ascending, is_whole
 
 
 def is_tournament(value):
@@ -20,6 +20,12 @@ def check_tournament(tournament):
         raise BadValue("tournament")
 
 
+def check_player(tournament, player, name):
+    """Raise BadValue with the name of the argument if the player is not one of the tournament."""
+    if not is_whole(player, 0, len(tournament) - 1):
+        raise BadValue(name)
+
+
 def triangles(tournament):
     """Return the ascending list of the triangles."""
     check_tournament(tournament)
@@ -28,9 +34,14 @@ def triangles(tournament):
     for x in range(len(tournament)):
         for y in tournament[x]:
             for z in tournament[y]:
-                if _is_triangle(tournament, x, y, z):
+                if _beat_in_turn(tournament, (x, y, z)):
                     found.append((x, y, z))
     return found
+
+
+def is_triangle(tournament, value):
+    """Return True if the value is a triangle of the tournament, which is not checked, otherwise False."""
+    return are_whole(value, 3, 0, len(tournament) - 1) and _beat_in_turn(tournament, value)
 
 
 def count_triangles(tournament):
@@ -56,12 +67,10 @@ def obstruction(tournament):
 def accepts_obstruction(tournament, value):
     """Return True if the value is an obstruction, otherwise False."""
     check_tournament(tournament)
-    if not isinstance(value, tuple) or len(value) != 4:
+    if not are_whole(value, 4, 0, len(tournament) - 1):
         return False
-    if not all([is_whole(item, 0, len(tournament) - 1) for item in value]):
-        return False
-    player, x, y, z = value
-    return _is_triangle(tournament, x, y, z) and _beats_all_or_none(tournament, player, (x, y, z))
+    three = value[1:]
+    return is_triangle(tournament, three) and _beats_all_or_none(tournament, value[0], three)
 
 
 def twins(tournament):
@@ -87,8 +96,9 @@ def _has_each_result_once(rows):
     return True
 
 
-def _is_triangle(tournament, x, y, z):
-    """Return True if x, the least of the three, beats y, y beats z, and z beats x."""
+def _beat_in_turn(tournament, three):
+    """Return True if the first and least of the three players beats the second, that the third, and that the first."""
+    x, y, z = three
     return x < y and x < z and y in tournament[x] and z in tournament[y] and x in tournament[z]
 
 

@@ -1,5 +1,6 @@
 """What the document says, written down once more for the tests, as plainly as can be."""
 
+from functools import lru_cache
 from itertools import combinations, permutations, product
 
 
@@ -41,6 +42,7 @@ def all_places(ring, players):
     return permutations(range(ring), players)
 
 
+@lru_cache(maxsize=None)
 def circular_tournaments(players):
     """The tournaments of all places on rings of up to 2 N + 1 places, by steps that are counted one by one."""
     found = set()
@@ -51,6 +53,7 @@ def circular_tournaments(players):
     return found
 
 
+@lru_cache(maxsize=None)
 def steps_ahead(ring, start, end):
     """How many places one goes ahead from the start until one stands at the end."""
     steps = 0
@@ -105,4 +108,123 @@ def all_twins(tournament):
         others = set(range(len(tournament))) - {one, other}
         if set(tournament[one]) & others == set(tournament[other]) & others:
             found.append((one, other))
+    return found
+
+
+def beats(tournament, one, other):
+    return other in tournament[one]
+
+
+def is_transitive(tournament):
+    """Whether there is no triangle."""
+    return not all_triangles(tournament)
+
+
+def all_orders(tournament):
+    """The tuples of all players in which each beats all behind it."""
+    found = []
+    for order in permutations(range(len(tournament))):
+        if all(beats(tournament, one, other) for one, other in combinations(order, 2)):
+            found.append(order)
+    return found
+
+
+def tournament_by(players, winner):
+    """The tournament of so many players in which of one < other winner(one, other) beats the other one of both."""
+    rows = [[] for _ in range(players)]
+    for one, other in combinations(range(players), 2):
+        won = winner(one, other)
+        rows[won].append(one + other - won)
+    return tuple(tuple(sorted(row)) for row in rows)
+
+
+def restricted_rows(tournament, players):
+    """The tournament of these players alone, numbered anew in their order."""
+    return tournament_by(len(players), lambda a, b: a if beats(tournament, players[a], players[b]) else b)
+
+
+def renamed_rows(tournament, order):
+    """The tournament in which order[x] beats order[y] if x beats y."""
+    old = {order[x]: x for x in range(len(order))}
+    return tournament_by(len(order), lambda a, b: a if beats(tournament, old[a], old[b]) else b)
+
+
+def switched_rows(tournament, players):
+    """The tournament in which the results between these players and the others are turned."""
+    def winner(one, other):
+        turned = len({one, other} & set(players)) == 1
+        return one if beats(tournament, one, other) != turned else other
+
+    return tournament_by(len(tournament), winner)
+
+
+def subsets(players):
+    """The ascending tuples of some of so many players, the empty one among them, in the order of tuples."""
+    return sorted(found for many in range(players + 1) for found in combinations(range(players), many))
+
+
+def all_signed_orders(players):
+    """Every signed order of so many players."""
+    for order in permutations(range(players)):
+        for signs in product((True, False), repeat=players):
+            yield tuple(zip(order, signs))
+
+
+def nth_signed_order(players, number):
+    """A signed order that begins with player 0 itself; each number from 0 on, up to their number, has its own."""
+    left = list(range(1, players))
+    order = [(0, True)]
+    while left:
+        number, at = divmod(number, len(left))
+        number, sign = divmod(number, 2)
+        order.append((left.pop(at), sign == 0))
+    return tuple(order)
+
+
+def stood_for(order):
+    """The tournament for which the signed order stands."""
+    places = {player: at for at, (player, _) in enumerate(order)}
+    signs = dict(order)
+
+    def winner(one, other):
+        earlier, later = sorted((one, other), key=places.get)
+        return earlier if signs[earlier] == signs[later] else later
+
+    return tournament_by(len(order), winner)
+
+
+@lru_cache(maxsize=None)
+def signed_orders_by_tournament(players):
+    """For each tournament of so many players that has signed orders, the list of these."""
+    found = {}
+    for order in all_signed_orders(players):
+        found.setdefault(stood_for(order), []).append(order)
+    return found
+
+
+def opposites(order):
+    return tuple((player, not itself) for player, itself in order)
+
+
+def all_turns(order):
+    """The turns of a signed order, by putting the opposite of its first entry behind it, again and again."""
+    found = []
+    for _ in range(2 * len(order)):
+        found.append(order)
+        order = order[1:] + opposites(order[:1])
+    return found
+
+
+def all_steps(order):
+    """The steps of a signed order, the one to the opposite of the first entry among them."""
+    row = order + opposites(order[:1])
+    return [2 if row[at][1] == row[at + 1][1] else 1 for at in range(len(order))]
+
+
+@lru_cache(maxsize=None)
+def ways_by_tournament(players, ring):
+    """For each tournament that comes by places of so many players on the ring, the ascending list of these."""
+    found = {}
+    for places in all_places(ring, players):
+        found.setdefault(tournament_of(ring, places), []).append(places)
     return found

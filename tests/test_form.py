@@ -31,6 +31,36 @@ INTERFACE = {
         "accepts_obstruction": ["tournament", "value"],
         "twins": ["tournament"],
     },
+    "transitive": {
+        "has_order": ["tournament"],
+        "order_evidence": ["tournament"],
+        "accepts_order": ["tournament", "value"],
+        "scores": ["tournament"],
+        "reversed_results": ["tournament"],
+        "restricted": ["tournament", "players"],
+        "renamed": ["tournament", "order"],
+    },
+    "signed": {
+        "told_order": ["tournament"],
+        "stands_for": ["order"],
+        "turned_order": ["tournament", "player", "itself"],
+        "least_ring": ["tournament"],
+        "accepts_order": ["tournament", "value"],
+    },
+    "circular": {
+        "is_circular": ["tournament"],
+        "least_places": ["tournament"],
+        "circle_evidence": ["tournament"],
+        "accepts_circle": ["tournament", "value"],
+        "part": ["tournament", "players"],
+    },
+    "counting": {
+        "count_ways": ["tournament", "ring"],
+        "count_beginning": ["tournament", "ring", "beginning"],
+        "nth_way": ["tournament", "ring", "index"],
+        "index_of_way": ["tournament", "ring", "value"],
+        "next_way": ["tournament", "ring", "places"],
+    },
 }
 CLASSES = {
     "errors": {

@@ -2,6 +2,7 @@
 
 import unittest
 
+from cases import Same
 from plain import all_places, reversed_rows, steps_ahead, tournament_of
 from wrong import NO_FACTORS, NO_INTEGERS, NO_PLACES, NO_RINGS, name_of_refusal
 from ringbeats.errors import RingError, TooLarge
@@ -35,12 +36,6 @@ def great_cases():
 def all_cases():
     yield from small_cases()
     yield from great_cases()
-
-
-class Same(unittest.TestCase):
-    def assertSame(self, value, expected):
-        """Equal, and of the same kinds throughout: True is not 1, and a list is not a tuple."""
-        self.assertEqual(repr(value), repr(expected))
 
 
 class IsRing(Same):

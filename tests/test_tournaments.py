@@ -3,44 +3,16 @@
 import unittest
 from itertools import combinations, product
 
+from cases import EIGHT_IN_A_ROW, FOUR, ROW, THREE, Same, all_cases, great_cases
 from plain import (
     all_obstructions, all_tournaments, all_triangles, all_twins, circular_tournaments, is_obstruction, residues,
     reversed_rows, with_loser, with_winner,
 )
-from wrong import NINE_IN_A_ROW, NO_TOURNAMENTS, THREE, name_of_refusal
+from wrong import NINE_IN_A_ROW, NO_TOURNAMENTS, name_of_refusal
 from ringbeats.rings import beaten
 from ringbeats.tournaments import (
     accepts_obstruction, count_triangles, is_tournament, obstruction, triangles, twins,
 )
-
-FOUR = ((1,), (2,), (0,), (0, 1, 2))
-ROW = ((1, 2), (2,), ())
-EIGHT_IN_A_ROW = tuple(tuple(range(player + 1, 8)) for player in range(8))
-
-
-def great_cases():
-    """Some tournaments of six, seven and eight players."""
-    six, seven = residues(6), residues(7)
-    for tournament in (six, seven, with_winner(six), with_loser(six), with_winner(seven), with_loser(seven)):
-        yield tournament
-        yield reversed_rows(tournament)
-    yield with_winner(with_loser(six))
-    yield EIGHT_IN_A_ROW
-    yield reversed_rows(EIGHT_IN_A_ROW)
-    for ring in (9, 15, 31):
-        yield beaten(ring, tuple(dict.fromkeys(place * 4 % ring for place in range(ring)))[:8])
-
-
-def all_cases():
-    for players in range(1, 6):
-        yield from all_tournaments(players)
-    yield from great_cases()
-
-
-class Same(unittest.TestCase):
-    def assertSame(self, value, expected):
-        """Equal, and of the same kinds throughout: True is not 1, and a list is not a tuple."""
-        self.assertEqual(repr(value), repr(expected))
 
 
 def is_tournament_by_sets(rows):

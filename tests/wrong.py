@@ -15,7 +15,6 @@ NO_PLACES = [
     (0, 0), (0, 1, 0), (4, 2, 3, 4), (0, 1, 2, 3, 4, 0),
 ]
 
-THREE = ((1,), (2,), (0,))
 NINE_IN_A_ROW = tuple(tuple(range(player + 1, 9)) for player in range(9))
 
 NO_TOURNAMENTS = [
@@ -35,6 +34,26 @@ NO_TOURNAMENTS = [
     # There are at most eight players.
     NINE_IN_A_ROW, NINE_IN_A_ROW[::-1], ((),) * 9, ((),) * 1000,
 ]
+
+
+# Each of these is no ascending tuple of players of a tournament of three; the empty one is told apart.
+NO_PLAYERS = [
+    None, True, False, 0, 1, 3, "", "0", "012", [], [0], [0, 1, 2], {}, ((),), ((0,),), ([0],), (0, (1,)),
+    (None,), (0, None), ("0",), (0, "1"), (True,), (False,), (0, True), (False, 1), (0, 1, True),
+    (-1,), (-1, 0), (0, -1), (3,), (0, 3), (0, 1, 2, 3), (4,), (10**30,), (0, 10**30),
+    (0, 0), (1, 1), (1, 0), (2, 1), (0, 2, 1), (0, 1, 1), (0, 0, 1, 2), (2, 1, 0), (0, 1, 2, 2), (0,) * 1000,
+]
+
+# Each of these is no tuple that has each of three players once.
+NO_ORDERS = [
+    None, True, False, 0, 3, "", "012", (), [], [0, 1, 2], {}, (0,), (0, 1), (1, 2), (0, 1, 2, 3), (0, 1, 2, 0),
+    (0, 0, 1), (0, 1, 1), (1, 1, 1), (2, 2, 0), (1, 2, 3), (0, 1, 3), (-1, 0, 1), (0, 1, -1), (0, 1, 10**30),
+    (False, 1, 2), (0, True, 2), (2, True, False), (None, 1, 2), (0, 1, None), ("0", 1, 2), (0, 1, "2"),
+    ((0,), 1, 2), (0, 1, [2]), ((0, 1, 2),), ((0, 1, 2), ()), (0, 1, 2) * 2, (0, 1, 2) * 1000,
+]
+
+# Each of these is no player of a tournament of three.
+NO_PLAYER = [None, True, False, -1, -3, 3, 4, 8, 10**30, "", "0", (), (0,), [], [0], {}]
 
 
 def name_of_refusal(call, *arguments):
