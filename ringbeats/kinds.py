@@ -1,6 +1,7 @@
 """The kinds of values that more than one file of the program asks for."""
 
 MOST_PLAYERS = 8
+GREATEST_LEVEL = 100
 
 
 def is_whole(value, low, high):

@@ -61,6 +61,27 @@ INTERFACE = {
         "index_of_way": ["tournament", "ring", "value"],
         "next_way": ["tournament", "ring", "places"],
     },
+    "switching": {
+        "switched": ["tournament", "players"],
+        "straightening": ["tournament"],
+        "ways": ["tournament", "other"],
+        "renamings": ["tournament", "other"],
+        "accepts_way": ["tournament", "other", "value"],
+        "close": ["tournament"],
+    },
+    "walks": {
+        "is_walk": ["tournament", "value"],
+        "shortest_walk": ["tournament", "one", "other"],
+        "walk_evidence": ["tournament", "one", "other"],
+        "accepts_shortest": ["tournament", "one", "other", "value"],
+    },
+    "cycles": {
+        "first_cycle": ["tournament", "player", "many"],
+        "first_row": ["tournament"],
+        "count_rows": ["tournament"],
+        "endless_evidence": ["tournament"],
+        "accepts_endless": ["tournament", "value"],
+    },
 }
 CLASSES = {
     "errors": {
