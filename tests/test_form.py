@@ -82,6 +82,39 @@ INTERFACE = {
         "endless_evidence": ["tournament"],
         "accepts_endless": ["tournament", "value"],
     },
+    "numbered": {
+        "count_circular": ["many"],
+        "nth_circular": ["many", "index"],
+        "index_of_circular": ["tournament"],
+        "next_circular": ["tournament"],
+        "with_one_more": ["tournament"],
+    },
+    "known": {
+        "count_completions": ["players", "known"],
+        "forced": ["players", "known"],
+        "first_conflict": ["players", "known"],
+        "best_question": ["players", "known"],
+    },
+    "cases": {
+        "pair_evidence": ["players", "known", "one", "other"],
+        "accepts_pair": ["players", "known", "one", "other", "value"],
+    },
+    "scanning": {
+        "scan": ["text"],
+    },
+    "reading": {
+        "next_tokens": ["text", "kind"],
+        "read_tournament": ["text"],
+        "read_ring": ["text"],
+    },
+    "writing": {
+        "tournament_text": ["tournament"],
+        "ring_text": ["ring", "places"],
+    },
+    "journals": {
+        "replayed": ["players", "journal"],
+        "are_right": ["players", "records"],
+    },
 }
 CLASSES = {
     "errors": {
@@ -90,6 +123,25 @@ CLASSES = {
         "TooLarge": ["what"],
         "NotPossible": ["why"],
         "TextError": ["column", "words"],
+    },
+    "notebook": {
+        "Notebook": ["players"],
+    },
+}
+METHODS = {
+    "notebook": {
+        "Notebook": {
+            "act": ["command"],
+            "undo": [],
+            "players": [],
+            "results": [],
+            "count": [],
+            "forced": [],
+            "question": [],
+            "journal": [],
+            "records": [],
+            "twin": [],
+        },
     },
 }
 
@@ -116,6 +168,16 @@ class Interface(unittest.TestCase):
                 self.assertEqual(found.__module__, f"ringbeats.{file}", name)
                 if parameters:
                     self.assertEqual(list(inspect.signature(found).parameters), parameters, name)
+
+    def test_methods_stand_in_their_classes_with_their_parameters(self):
+        for file, classes in METHODS.items():
+            module = importlib.import_module(f"ringbeats.{file}")
+            for name, methods in classes.items():
+                for method, parameters in methods.items():
+                    function = vars(getattr(module, name))[method]
+                    self.assertTrue(inspect.isfunction(function), method)
+                    self.assertEqual(function.__qualname__, f"{name}.{method}")
+                    self.assertEqual(list(inspect.signature(function).parameters), ["self", *parameters], method)
 
 
 class Form(unittest.TestCase):
